@@ -31,6 +31,9 @@ func TestWriter(t *testing.T) {
 	if s, e := w.Done(); s != "" || e != api.ErrRange {
 		t.Errorf("below 0: %q %d", s, e)
 	}
+	if v := New(); v.Num(-1) != v || v.Num(1) != v {
+		t.Error("with an error a call answers another Writer")
+	}
 	if s, e := New().Text(strings.Repeat("x", 300)).Done(); e != api.OK || len(s) != 303 {
 		t.Errorf("long text: %d %d", len(s), e)
 	}
