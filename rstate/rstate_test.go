@@ -124,7 +124,7 @@ func TestFeed(t *testing.T) {
 // P30.5: those that nobody made.
 func TestZero(t *testing.T) {
 	for _, s := range []*State{nil, new(State)} {
-		if s.Apply(horizon(1, 1)) != api.ErrZero || s.Apply(api.Note{}) != api.ErrZero || len(s.Notes()) != 0 || !conf.Same(s.Conf(), api.Conf{}) || s.Horizon() != 0 || len(s.All()) != 0 || s.Len() != 0 || s.Stamped() != 0 || s.Find(0, 0) != -1 || s.Top(0) != 0 || s.Feed(mvcc.New(), 0, 5) != 0 {
+		if s.Apply(horizon(1, 1)) != api.ErrZero || s.Apply(api.Note{}) != api.ErrZero || len(s.Notes()) != 0 || !conf.Same(s.Conf(), api.Conf{}) || s.Horizon() != 0 || len(s.All()) != 0 || s.Len() != 0 || s.Stamped() != 0 || s.Find(0, 0) != -1 || s.Top(0) != 0 || s.Feed(mvcc.New(), 3, 5) != 0 {
 			t.Error("not zero")
 		}
 	}
