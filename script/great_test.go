@@ -169,8 +169,9 @@ func play(t *testing.T, seed int64, steps int) {
 	}
 	x.judged()
 	fair.Wake(c)
+	bound := fair.Bound(c)
 	for rounds := 0; !fair.Settled(c); rounds++ {
-		if rounds >= fair.Bound(c) {
+		if rounds >= bound {
 			if erased {
 				break
 			}
@@ -192,16 +193,6 @@ func play(t *testing.T, seed int64, steps int) {
 			}
 		}
 	}
-	if os.Getenv("STAT") != "" {
-		ended, errs := 0, map[api.Errno]int{}
-		for _, d := range c.Deeds() {
-			if d.End > 0 {
-				ended++
-				errs[d.Reply.E]++
-			}
-		}
-		t.Log(seed, "deeds", len(c.Deeds()), ended, "epoch", c.Conf().Epoch, "list", x.s.Len(), "horizon", c.Horizon(4), "errs", errs[0], errs[12], errs[13], errs[16], errs[17], errs[21], fair.Settled(c))
-	}
 	again(x, n, floor, events)
 }
 
@@ -221,13 +212,18 @@ func again(x *seen, n int, floor uint64, events []api.Event) {
 	}
 }
 
+// setting answers a number that the environment may set, for longer runs.
+func setting(name string, usual int) int {
+	if n, e := strconv.Atoi(os.Getenv(name)); e == nil {
+		return n
+	}
+	return usual
+}
+
 // E1 to E5, whatever steps there are.
 func TestGreat(t *testing.T) {
-	seeds, steps := 60, 600
-	if n, e := strconv.Atoi(os.Getenv("GREAT")); e == nil {
-		seeds = n
-	}
-	from, _ := strconv.Atoi(os.Getenv("GREATFROM"))
+	seeds, steps := setting("GREAT", 60), setting("GREATSTEPS", 600)
+	from := setting("GREATFROM", 0)
 	for i := range seeds {
 		play(t, int64(from+i), steps)
 	}
