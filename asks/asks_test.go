@@ -69,7 +69,7 @@ func TestNew(t *testing.T) {
 		{0, 1, api.Ask{K: api.AGet, Node: 4, Key: "a"}, api.ErrArg}, {0, 1, api.Ask{K: api.AGet, Node: -1, Key: "a"}, api.ErrArg}, {0, 1, api.Ask{K: api.AGet, Node: 3}, api.ErrArg}, {0, 1, api.Ask{K: api.AGet, Node: 3, Key: long}, api.ErrArg}, {0, 1, api.Ask{K: api.AGet, Node: 3, Key: "a", N: -1}, api.OK},
 		{0, 1, api.Ask{K: api.ALatest, Node: 4, Key: "a"}, api.ErrArg}, {0, 1, api.Ask{K: api.ALatest}, api.ErrArg}, {0, 1, api.Ask{K: api.ALatest, Key: "a", Ops: five}, api.OK},
 		{0, 1, api.Ask{K: api.AScan, Node: 4, N: 1}, api.ErrArg}, {0, 1, api.Ask{K: api.AScan, N: 0}, api.ErrArg}, {0, 1, api.Ask{K: api.AScan, N: 33}, api.ErrArg}, {0, 1, api.Ask{K: api.AScan, N: 32}, api.OK}, {0, 1, api.Ask{K: api.AScan, N: 1, Key: long}, api.ErrArg}, {0, 1, api.Ask{K: api.AScan, N: 1, To: long}, api.ErrArg},
-		{0, 1, api.Ask{K: api.APin, N: -1, Node: 9}, api.OK}, {0, 1, api.Ask{K: api.ARenew, N: -1}, api.ErrArg}, {0, 1, api.Ask{K: api.AUnpin, N: api.MaxNum + 1}, api.ErrArg}, {0, 1, api.Ask{K: api.AUnpin, N: api.MaxNum}, api.OK},
+		{0, 1, api.Ask{K: api.AScan, N: 1, Key: long[:8], To: long[:8]}, api.OK}, {3, 1, api.Ask{K: api.AGet, Key: "a"}, api.ErrArg}, {0, 1, api.Ask{K: api.ARenew}, api.OK}, {0, 1, api.Ask{K: api.APin, N: -1, Node: 9}, api.OK}, {0, 1, api.Ask{K: api.ARenew, N: -1}, api.ErrArg}, {0, 1, api.Ask{K: api.AUnpin, N: api.MaxNum + 1}, api.ErrArg}, {0, 1, api.Ask{K: api.AUnpin, N: api.MaxNum}, api.OK},
 	} {
 		if got, e := New(x.client, x.req, x.a); e != x.e || (got == nil) != (e != api.OK) {
 			t.Errorf("%d: %d", i, e)
@@ -207,6 +207,11 @@ func TestScan(t *testing.T) {
 		}
 		is(t, x, api.Reply{At: 5, Pairs: y.Pairs})
 	}
+	x = begin(9)
+	if !x.Take(3, rows("a", 5, true, p("b"))) {
+		t.Error("a page of one pair")
+	}
+	sends(t, x, 3, scan("b\x00", 2))
 	x = begin(1)
 	sends(t, x, 3, scan("a", 1))
 	x.Take(3, rows("a", 5, true, p("b"), p("c")))

@@ -134,6 +134,43 @@ func TestDeeds(t *testing.T) {
 	}
 }
 
+// P36.2: who sends what, what comes to the master, and what a crash takes.
+func TestPackets(t *testing.T) {
+	c := made(t, 2, 0)
+	c.Step(ask(2, put("a", "1")))
+	if l := c.way.All(); !slices.Equal(l, []api.Packet{{From: 7, To: api.Master, Body: "M\x0f"}}) || c.Busy(0) {
+		t.Error(l)
+	}
+	c.Step(ask(0, put("a", "1")))
+	c.Step(api.Event{K: api.EvDeliver})
+	if l := c.way.All(); !c.Busy(0) || len(l) != 2 || l[1].From != api.Master || l[1].To != 7 || l[1].Body[:2] != "M\x01" {
+		t.Error(l)
+	}
+	for _, body := range []string{"", "M", "M\x00", "S\x0f", "\x0f", "MM\x0f"} {
+		c.way.Send(api.Packet{From: 6, To: api.Master, Body: body})
+		n := c.Waiting()
+		if c.Step(api.Event{K: api.EvDeliver, N: n - 1}) != api.OK || c.Waiting() != n-1 {
+			t.Errorf("%q", body)
+		}
+	}
+	for _, node := range []int{1, api.Master} {
+		d := c.safe
+		if node == 1 {
+			d = c.disks[1]
+		}
+		d.Write(99, "abc")
+		c.Step(api.Event{K: api.EvCrash, Node: node, N: 2})
+		if d.Data(99) != "ab" || d.Boots() != 2 {
+			t.Error(node, d.Data(99))
+		}
+		n := c.Waiting()
+		c.way.Send(api.Packet{From: 6, To: node, Body: "M\x0f"})
+		if c.Step(api.Event{K: api.EvDeliver, N: n}) != api.OK || c.Waiting() != n || c.Lost() != 0 {
+			t.Error("what comes to who is down is gone")
+		}
+	}
+}
+
 // Two clients write: timestamps behind the floor.
 func TestThree(t *testing.T) {
 	c := made(t, 3, 10)

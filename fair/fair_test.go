@@ -69,9 +69,14 @@ func TestSettled(t *testing.T) {
 			t.Error(i, c.Mark(i))
 		}
 	}
-	c.Step(api.Event{K: api.EvCrash, Node: 1})
-	if Settled(c) {
-		t.Error("one is down")
+	for _, node := range []int{3, api.Master, 1} {
+		c.Step(api.Event{K: api.EvCrash, Node: node})
+		if Settled(c) {
+			t.Error("one is down", node)
+		}
+		if node != 1 {
+			Wake(c)
+		}
 	}
 	c.Step(api.Event{K: api.EvErase, Node: 1})
 	Wake(c)
@@ -132,6 +137,9 @@ func TestRun(t *testing.T) {
 		t.Error(n, ok)
 	}
 	for _, c := range []*cluster.Cluster{nil, new(cluster.Cluster)} {
+		if n, ok := Run(c, -5); n != 0 || ok {
+			t.Error("nobody made it", n, ok)
+		}
 		if n, ok := Run(c, 1<<62); n != 1<<62 || ok || Wake(c) != 0 || Round(c) != 0 || Settled(c) || Bound(c) != 200 {
 			t.Error("nobody made it", n, ok)
 		}

@@ -72,7 +72,7 @@ func TestWrites(t *testing.T) {
 	for i, x := range []struct {
 		d   api.Deed
 		err api.Errno
-	}{{d(0, 1, 1, 5, api.Reply{At: 3}), api.ErrNone}, {d(0, 0, 1, 5, api.Reply{At: 4}), api.ErrNone}, {d(3, 0, 2, 5, api.Reply{}), api.ErrNone}, {d(0, 0, 3, 5, api.Reply{E: api.ErrEnd}), api.ErrEnd}} {
+	}{{d(0, 1, 1, 5, api.Reply{At: 3}), api.ErrNone}, {d(0, 0, 1, 5, api.Reply{At: 4}), api.ErrNone}, {d(3, 0, 2, 5, api.Reply{}), api.ErrNone}, {d(0, 0, 3, 5, api.Reply{E: api.ErrEnd}), api.ErrEnd}, {d(0, 0, 1, 1, api.Reply{E: api.ErrEnd}), api.ErrEnd}} {
 		if at, err := Writes(w, append(slices.Clone(good), x.d, x.d)); at != len(good) || err != x.err {
 			t.Error(i, at, err)
 		}
@@ -90,7 +90,7 @@ func TestTimes(t *testing.T) {
 		want api.Errno
 	}{
 		{nil, -1, api.OK}, {[]api.Deed{d(0, 1, 2, 5, 0), d(0, 3, 4, 6, 0), d(3, 5, 6, 7, 0)}, -1, api.OK}, {[]api.Deed{d(0, 1, 3, 5, 0), d(0, 3, 4, 4, 0)}, -1, api.OK},
-		{[]api.Deed{d(0, 1, 2, 5, 0), d(0, 3, 4, 5, 0)}, 1, api.ErrOrder}, {[]api.Deed{d(3, 1, 2, 5, 0), d(0, 3, 4, 6, 0), d(3, 5, 6, 2, 0)}, 2, api.ErrOrder}, {[]api.Deed{d(0, 3, 4, 5, 0), d(0, 1, 2, 5, 0)}, 0, api.ErrOrder},
+		{[]api.Deed{d(0, 1, 2, 5, 0), d(0, 3, 4, 5, 0)}, 1, api.ErrOrder}, {[]api.Deed{d(3, 1, 2, 5, 0), d(0, 3, 4, 6, 0), d(3, 5, 6, 2, 0)}, 2, api.ErrOrder}, {[]api.Deed{d(0, 3, 4, 5, 0), d(0, 1, 2, 5, 0)}, 0, api.ErrOrder}, {[]api.Deed{d(0, 0, 1, 5, 0), d(0, 2, 4, 5, 0)}, 1, api.ErrOrder},
 		{[]api.Deed{d(0, 1, 2, 5, 7), d(0, 3, 4, 5, 0)}, -1, api.OK}, {[]api.Deed{d(0, 1, 2, 5, 0), d(0, 3, 4, 5, 7)}, -1, api.OK}, {[]api.Deed{d(1, 1, 2, 5, 0), d(0, 3, 4, 5, 0)}, -1, api.OK}, {[]api.Deed{d(0, 1, 2, 5, 0), d(1, 3, 4, 5, 0)}, -1, api.OK}, {[]api.Deed{d(0, 1, 0, 5, 0), d(0, 3, 4, 5, 0)}, -1, api.OK}, {[]api.Deed{d(0, 1, 2, 5, 0), d(0, 3, 0, 5, 0)}, -1, api.OK},
 	} {
 		if at, err := Times(x.d); at != x.at || err != x.want {
@@ -136,6 +136,16 @@ func TestCluster(t *testing.T) {
 	rounds(2)
 	if at, err := Pinned(c); at != -1 || err != api.OK || len(c.Pins()) != 1 {
 		t.Error("pinned", at, err, c.Pins())
+	}
+	for i, x := range []struct {
+		first uint64
+		h     []uint64
+		id    int
+		err   api.Errno
+	}{{5, []uint64{0, 5}, -1, api.OK}, {4, []uint64{0, 5}, 7, api.ErrPruned}, {8, []uint64{0, 8}, 9, api.ErrPruned}, {0, []uint64{8, 0}, 7, api.ErrPruned}, {0, nil, -1, api.OK}} {
+		if id, err := above([]api.Pin{{Id: 7, At: x.first}, {Id: 9, At: 7}}, x.h); id != x.id || err != x.err {
+			t.Error(i, id, err)
+		}
 	}
 	c.Step(api.Event{K: api.EvCrash, Node: api.Master})
 	if at, err := Trusted(c, []api.Entry{e(9, 9)}); at != -1 || err != api.OK {

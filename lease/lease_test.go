@@ -30,7 +30,7 @@ func TestGrant(t *testing.T) {
 		id   int
 		e    api.Errno
 		want []api.Pin
-	}{{three, 0, api.ErrPins, nil}, {three[:2], 0, api.ErrArg, nil}, {three[:2], api.MaxNum + 1, api.ErrArg, nil}, {three[:2], 3, api.ErrOrder, nil}, {three[:2], 4, api.OK, []api.Pin{three[0], three[1], pin(4, 7, api.Lease)}}, {nil, api.MaxNum, api.OK, []api.Pin{pin(api.MaxNum, 7, api.Lease)}}} {
+	}{{three, 0, api.ErrPins, nil}, {three[:2], 0, api.ErrArg, nil}, {three[:2], api.MaxNum + 1, api.ErrArg, nil}, {three[:2], 3, api.ErrOrder, nil}, {three[:1], 1, api.ErrOrder, nil}, {three[:2], 4, api.OK, []api.Pin{three[0], three[1], pin(4, 7, api.Lease)}}, {nil, api.MaxNum, api.OK, []api.Pin{pin(api.MaxNum, 7, api.Lease)}}} {
 		if got, e := Grant(x.l, x.id, 7); e != x.e || !slices.Equal(got, x.want) {
 			t.Error(i, got, e)
 		}

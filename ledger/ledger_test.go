@@ -2,6 +2,7 @@ package ledger
 
 import (
 	"slices"
+	"strings"
 	"testing"
 
 	"catena/api"
@@ -38,5 +39,19 @@ func TestKeep(t *testing.T) {
 	l.Keep(all)
 	if !slices.EqualFunc(l.Notes(), []api.Note{legit(7)}, note.Same) || p.Size() > 100 {
 		t.Error(l.Notes())
+	}
+	// A text's frame has seven bytes beside it, as long as the text is short.
+	for p.Size() < api.LogBytes {
+		p.Append(strings.Repeat("x", min(api.LogBytes-p.Size(), 20+api.LogBytes%2)-6))
+		if left := api.LogBytes - p.Size(); left > 0 && left < 14 {
+			p.Append(strings.Repeat("x", left-6))
+		}
+	}
+	if size := p.Size(); size == api.LogBytes {
+		if l.Keep(all); p.Size() != size {
+			t.Error("just as long as it may be")
+		}
+	} else {
+		t.Error(size)
 	}
 }

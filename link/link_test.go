@@ -111,6 +111,10 @@ func TestIn(t *testing.T) {
 			t.Error(s, got, e)
 		}
 	}
+	other, _ := New(3)
+	if got, e := other.In(seg(1, api.MaxNum, api.MaxNum, api.MaxNum, api.MaxNum, api.MaxNum)); len(got) != 0 || e != api.OK || other.Knows() != 1 {
+		t.Error("the greatest numbers", e)
+	}
 	l.Send("a")
 	l.Send("b")
 	for i, x := range []struct {

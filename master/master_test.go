@@ -9,6 +9,7 @@ import (
 	"catena/conf"
 	"catena/disk"
 	"catena/mess"
+	"catena/point"
 )
 
 func chain(epoch int, ids ...int) api.Conf {
@@ -86,6 +87,11 @@ func TestNew(t *testing.T) {
 		if m, e := Open(x.d); m != nil || e != x.e {
 			t.Errorf("Open %d: %d", i, e)
 		}
+	}
+	empty := disk.New()
+	point.New(empty)
+	if m, e := Open(empty); m != nil || e != api.ErrNone {
+		t.Error("no configuration", e)
 	}
 	m, d := made(t, 2, 0)
 	for range 2 {
@@ -199,6 +205,51 @@ func TestLate(t *testing.T) {
 	}
 }
 
+// P29.4: a wish, and a disk's being lost, go with the configuration that follows.
+func TestWishes(t *testing.T) {
+	m, _ := made(t, 0, 1)
+	join := func(id, serial int) {
+		if !m.Join(id) {
+			t.Fatal("join", id)
+		}
+		m.Deliver(id, beat(0, serial, false, 0, 0))
+		m.Tick()
+	}
+	steps := func(want ...int) {
+		t.Helper()
+		var ids []int
+		for _, x := range m.Conf().Members {
+			ids = append(ids, x.Id)
+		}
+		epoch := m.Conf().Epoch
+		m.Tick()
+		if !slices.Equal(ids, want) || m.Conf().Epoch != epoch {
+			t.Error(ids, m.Conf())
+		}
+	}
+	join(2, 1)
+	steps(0, 1, 2)
+	m.Leave(2)
+	m.Tick()
+	m.Deliver(2, beat(2, 1, false, 0, 0))
+	steps(0, 1) // who joined once does not join again
+	join(2, 1)
+	steps(0, 1, 2) // who left once does not leave again
+	m.Deliver(0, beat(1, 2, false, 0, 0))
+	m.Tick()
+	steps(1, 2)
+	join(0, 2)
+	steps(1, 2, 0) // whose disk was lost once has another one now
+	m.Deliver(1, beat(m.Conf().Epoch, 1, true, 99, 99))
+	m.Deliver(2, beat(m.Conf().Epoch, 1, true, 99, 99))
+	m.Leave(0)
+	m.Tick()
+	steps(1, 2)
+	if m.Horizon() != 0 {
+		t.Error("marks of the epoch ahead count", m.Horizon())
+	}
+}
+
 // P29.4: the horizon follows the marks, and waits for pins.
 func TestHorizon(t *testing.T) {
 	m, d := made(t, 0, 1)
@@ -215,6 +266,17 @@ func TestHorizon(t *testing.T) {
 	to, x := one(t, m.Deliver(5, api.Msg{K: api.MPin, Req: 1, At: 4}))
 	if to != 5 || !mess.Same(x, api.Msg{K: api.MNo, Req: 1, E: api.ErrPruned, Epoch: 1, N: 1}) {
 		t.Error(to, x)
+	}
+	for req, e := range []api.Errno{api.OK, api.OK, api.OK, api.ErrPins} {
+		if m.Deliver(6, api.Msg{K: api.MPin, Req: req + 1, At: 5}); m.Said(1).E != e {
+			t.Error(m.Said(1))
+		}
+	}
+	if m.Deliver(6, api.Msg{K: api.MPin, Req: 5, At: 4}); m.Said(1).E != api.ErrPruned {
+		t.Error("too old is told ahead of too many", m.Said(1))
+	}
+	for id := range 3 {
+		m.Deliver(6, api.Msg{K: api.MUnpin, Req: 6 + id, N: id + 1})
 	}
 	m.Deliver(5, api.Msg{K: api.MPin, Req: 2, At: 6})
 	m.Deliver(0, beat(1, 1, true, 90, 90))
@@ -264,9 +326,15 @@ func TestPins(t *testing.T) {
 	if !slices.Equal(m.Pins(), want) || m.Said(2) != (api.Answer{Client: 2, Req: api.MaxReq, Pin: 4}) || m.Said(3) != (api.Answer{}) {
 		t.Error(m.Pins(), m.Said(2))
 	}
+	m.Deliver(0, beat(1, 1, true, 9, 9))
+	m.Tick()
+	m.Deliver(6, ask(api.MRenew, 2, 1, 0))
+	if l := m.Pins(); l[0].Left != 8 || l[1].Left != 7 {
+		t.Error("the first one", l)
+	}
 	m.Tick()
 	m.Deliver(5, ask(api.MRenew, 4, 3, 0))
-	if l := m.Pins(); l[0].Left != 7 || l[1].Left != 8 || l[2].Left != 7 {
+	if l := m.Pins(); l[0].Left != 7 || l[1].Left != 8 || l[2].Left != 6 {
 		t.Error(l)
 	}
 	m = again(t, d)

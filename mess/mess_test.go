@@ -48,6 +48,13 @@ func TestBytes(t *testing.T) {
 				t.Errorf("%d cut off at %d: %v %d", k, cut, m, e)
 			}
 		}
+		last := full(k)
+		last.E, last.At = api.ErrLate, api.MaxTs
+		if s, _ := Put(last); s != "" {
+			if m, e := Of(s); e != api.OK || !Same(m, Clean(last)) {
+				t.Errorf("the last ones, %d: %v %d", k, m, e)
+			}
+		}
 		if m, e := Of(want + "\x00"); e != api.ErrForm || !Same(m, api.Msg{}) {
 			t.Errorf("%d with more behind: %d", k, e)
 		}
@@ -105,6 +112,7 @@ func TestCheck(t *testing.T) {
 		m api.Msg
 		e api.Errno
 	}{
+		{api.Msg{K: api.MFwd}, api.OK}, {api.Msg{K: api.MBeat}, api.OK}, {edit(api.MScan, func(m *api.Msg) { m.Key, m.To = long[:8], long[:8] }), api.OK}, {edit(api.MRows, func(m *api.Msg) { m.Pairs[0] = api.Pair{Key: long[:8], Val: long[:8]} }), api.OK},
 		{api.Msg{}, api.ErrKind}, {full(-1), api.ErrKind}, {full(16), api.ErrKind}, {full(1 << 40), api.ErrKind},
 		{edit(api.MConf, func(m *api.Msg) { m.Conf.Epoch = 0 }), api.ErrRange}, {edit(api.MConf, func(m *api.Msg) { m.Epoch = -1 }), api.OK},
 		{edit(api.MBeat, func(m *api.Msg) { m.Epoch = -1 }), api.ErrRange}, {edit(api.MBeat, func(m *api.Msg) { m.Serial = api.MaxNum + 1 }), api.ErrRange}, {edit(api.MBeat, func(m *api.Msg) { m.Serial = api.MaxNum }), api.OK},

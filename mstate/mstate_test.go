@@ -93,6 +93,9 @@ func TestApply(t *testing.T) {
 	if s.Top() != 20 || len(s.Pins()) != 2 || !slices.Equal(s.Legit(), []int{0, 1, 2}) || s.Horizon() != 15 || s.Said(1) != answer(1, 9) || s.Said(2) != (api.Answer{}) {
 		t.Error(s.Top(), s.Pins(), s.Legit())
 	}
+	if s.Apply(pin(20, 50)) != api.ErrOrder || s.Said(0) != (api.Answer{E: 7, Pin: 2}) {
+		t.Error("the Id of a pin that is gone", s.Said(0))
+	}
 	n := confNote(chain(6, 0, 3), 0)
 	if s.Apply(n) != api.OK || !conf.Same(s.Conf(), chain(6, 0, 3)) || !slices.Equal(s.Legit(), []int{0}) {
 		t.Error("configuration")

@@ -36,6 +36,12 @@ func TestBytes(t *testing.T) {
 				t.Errorf("%d cut off at %d: %v %d", k, cut, n, e)
 			}
 		}
+		last := full(k)
+		last.Legit, last.Said.E = []int{0, 1, 2, 3}, api.ErrLate
+		s, _ := Put(last)
+		if n, e := Of(s); e != api.OK || !Same(n, Clean(last)) {
+			t.Errorf("the last ones, %d: %v %d", k, n, e)
+		}
 		if n, e := Of(want + "\x00"); e != api.ErrForm || !Same(n, api.Note{}) {
 			t.Errorf("%d with more behind: %d", k, e)
 		}

@@ -82,7 +82,7 @@ func TestLearn(t *testing.T) {
 	}{
 		{5, 0, []uint64{9, 9, 6, 7}, []api.Note{n(2, 6), n(3, 7)}}, {5, 2, []uint64{6, 7, 8, 9}, []api.Note{n(2, 6), n(3, 7), n(4, 8)}}, {3, 2, []uint64{6, 7}, []api.Note{n(2, 6)}}, {2, 2, []uint64{6}, nil},
 		{5, 3, []uint64{7}, nil}, {5, 2, []uint64{5, 8}, nil}, {5, 2, []uint64{6, 6, 8}, []api.Note{n(2, 6)}}, {5, -1, []uint64{0, 0, 0, 6}, []api.Note{n(2, 6)}},
-		{most, most, []uint64{6, 7}, nil}, {5, least, []uint64{6, 7, 8, 9}, nil}, {least, 2, []uint64{6}, nil}, {5, 2, nil, nil}, {5, 2, []uint64{api.MaxTs, 0}, []api.Note{n(2, api.MaxTs)}},
+		{most, most, []uint64{6, 7}, nil}, {5, least, []uint64{6, 7, 8, 9}, nil}, {least, 2, []uint64{6}, nil}, {5, 2, nil, nil}, {most, 2, []uint64{6, 7, 8, 9}, []api.Note{n(2, 6), n(3, 7), n(4, 8)}}, {5, 2, []uint64{api.MaxTs, 0}, []api.Note{n(2, api.MaxTs)}},
 	} {
 		if got := Learn(l, x.good, api.Msg{P: x.p, Stamps: x.ts}); !slices.EqualFunc(got, x.want, note.Same) {
 			t.Errorf("%d: %v", i, got)

@@ -57,6 +57,9 @@ func TestEnded(t *testing.T) {
 			t.Error(n)
 		}
 	}
+	if !Ended(log(api.MaxTs), 1) || Ended(nil, 0) || Ended(nil, 1) {
+		t.Error("the only one")
+	}
 }
 
 // P19.3: timestamps rise, are not below the floor, and never wrap.

@@ -64,7 +64,7 @@ func TestFill(t *testing.T) {
 		w, want []api.Entry
 		err     api.Errno
 	}{
-		{nil, nil, api.OK}, {[]api.Entry{e('a', 3, api.Op{Key: "z"}), e('b', 4)}, []api.Entry{e('a', 3, l[1], l[2]), e('b', 4)}, api.OK}, {[]api.Entry{e('c', 0)}, nil, api.ErrNone}, {[]api.Entry{e('d', 3)}, nil, api.ErrNone},
+		{nil, nil, api.OK}, {[]api.Entry{e('a', 3, api.Op{Key: "z"}), e('b', 4)}, []api.Entry{e('a', 3, l[1], l[2]), e('b', 4)}, api.OK}, {[]api.Entry{e('b', 1)}, []api.Entry{e('b', 1)}, api.OK}, {[]api.Entry{e('c', 0)}, nil, api.ErrNone}, {[]api.Entry{e('d', 3)}, nil, api.ErrNone},
 		{[]api.Entry{e('a', 3), e('a', 4)}, nil, api.ErrOrder}, {[]api.Entry{e('a', 3), e('b', 3)}, nil, api.ErrOrder}, {[]api.Entry{e('a', 3), e('b', 2)}, nil, api.ErrOrder}, {[]api.Entry{e('a', 0)}, nil, api.ErrOrder}, {[]api.Entry{e('a', 0), e('c', 1)}, nil, api.ErrOrder}, {[]api.Entry{e('a', 3), e('c', 2)}, nil, api.ErrNone},
 	} {
 		got, err := Fill(c.w, d)

@@ -118,6 +118,46 @@ func TestDepth(t *testing.T) {
 	}
 }
 
+// P15.3: the depth, in whatever order some few keys are put, and one of them is deleted.
+func TestOrders(t *testing.T) {
+	var orders func(l []string, n int)
+	orders = func(l []string, n int) {
+		if n < len(l) {
+			for i := n; i < len(l); i++ {
+				l[n], l[i] = l[i], l[n]
+				orders(l, n+1)
+				l[n], l[i] = l[i], l[n]
+			}
+			return
+		}
+		for _, gone := range l {
+			x := New[int]()
+			for i, k := range l {
+				x.Put(k, i)
+				if x.Len() < least(x.Depth()) {
+					t.Fatal(l[:i+1], x.Depth())
+				}
+			}
+			if x.Del(gone); x.Len() < least(x.Depth()) || x.root.check() != x.Depth() {
+				t.Fatal(l, gone, x.Depth())
+			}
+		}
+	}
+	orders([]string{"a", "b", "c", "d", "e", "f", "g"}, 0)
+}
+
+// check tells the depth anew, from below; -1, if one that is kept is another one, or two sides differ too much.
+func (n *node[V]) check() int {
+	if n == nil {
+		return 0
+	}
+	a, b := n.left.check(), n.right.check()
+	if a < 0 || b < 0 || a-b > 1 || b-a > 1 || n.depth != 1+max(a, b) {
+		return -1
+	}
+	return n.depth
+}
+
 // P15.4: those that nobody made.
 func TestZero(t *testing.T) {
 	for _, x := range []*Tree[int]{nil, new(Tree[int])} {

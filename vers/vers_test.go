@@ -64,6 +64,12 @@ func TestAt(t *testing.T) {
 			t.Error(at, v)
 		}
 	}
+	if v, ok := At(cells(2, 9, 9), 5); v != "c" || !ok {
+		t.Error("the first one", v)
+	}
+	if v, ok := At(cells(7, 9, 9), 5); v != "" || ok {
+		t.Error("none", v)
+	}
 	if v, ok := At(nil, 5); v != "" || ok {
 		t.Error("nothing")
 	}

@@ -76,6 +76,9 @@ func TestReaderEnd(t *testing.T) {
 	if r.Num(5) != 5 || !r.Flag() || r.Left() != 3 || r.Text(2) != "ab" || r.Left() != 0 || r.End() != api.OK || r.Err() != api.OK {
 		t.Error("read")
 	}
+	if Open("\x05").End() != api.ErrForm {
+		t.Error("one byte is left")
+	}
 	if Open("").End() != api.OK {
 		t.Error("empty")
 	}
