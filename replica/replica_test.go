@@ -103,6 +103,11 @@ func TestStart(t *testing.T) {
 	if len(r.Entries()) != 1 || r.Good() != 1 || r.Stable() != 0 || !r.Ready() || r.Conf().Epoch != 1 {
 		t.Error("again", r.Entries(), r.Good(), r.Stable())
 	}
+	p, _ = point.Open(d)
+	p.Append(s)
+	if start(t, 0, d); d.Pending() != 0 {
+		t.Error("not safe behind Start")
+	}
 	if m := msgs(t, r.Tick()); r.Stable() != 1 || r.Mark() != 1 || len(m[5]) != 1 {
 		t.Error("stable again", m)
 	}

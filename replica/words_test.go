@@ -200,6 +200,19 @@ func TestTail(t *testing.T) {
 	if heard != room {
 		t.Error(heard)
 	}
+	g, _ := link.Put(api.Seg{Boot: 1, Stream: 1, Seq: head.seq, AckBoot: 1, AckStream: 1, AckSeq: head.heard})
+	head.hear(t, r.Deliver(0, "S"+g)) // no more than that waited
+}
+
+// P33.2: who becomes the only member stamps, and answers, at once.
+func TestLeft(t *testing.T) {
+	r := start(t, 0, disk.New())
+	r.Deliver(api.Master, where(chain(1, 8, 0, 1), 0))
+	r.Deliver(6, write(1, batch(1, 3)))
+	m := msgs(t, r.Deliver(api.Master, where(chain(2, 9, 0), 0)))
+	if len(m[6]) != 1 || !mess.Same(m[6][0], api.Msg{K: api.MDone, Req: 3, At: 9}) || r.Stable() != 1 {
+		t.Error(m)
+	}
 }
 
 // P33.1: a number that is none does not touch the disk; P33.2: a node that is no client is told nothing.

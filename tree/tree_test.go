@@ -91,7 +91,7 @@ func TestDepth(t *testing.T) {
 				}
 				delete(has, gone)
 			}
-			if x.Len() != len(has) || x.Len() < least(x.Depth()) {
+			if x.Len() != len(has) || x.Len() < least(x.Depth()) || i < 400 && x.root.check() != x.Depth() {
 				t.Fatal(x.Len(), x.Depth())
 			}
 		}
@@ -108,7 +108,7 @@ func TestDepth(t *testing.T) {
 		}
 		for _, k := range keys {
 			x.Del(k)
-			if x.Len() < least(x.Depth()) {
+			if x.Len() < least(x.Depth()) || x.Len() < 400 && x.root.check() != x.Depth() {
 				t.Fatal(x.Len(), x.Depth())
 			}
 		}
@@ -118,7 +118,7 @@ func TestDepth(t *testing.T) {
 	}
 }
 
-// P15.3: the depth, in whatever order some few keys are put, and one of them is deleted.
+// P15.3: the depth, in whatever order some few keys are put, and deleted.
 func TestOrders(t *testing.T) {
 	var orders func(l []string, n int)
 	orders = func(l []string, n int) {
@@ -130,16 +130,15 @@ func TestOrders(t *testing.T) {
 			}
 			return
 		}
-		for _, gone := range l {
-			x := New[int]()
-			for i, k := range l {
-				x.Put(k, i)
-				if x.Len() < least(x.Depth()) {
-					t.Fatal(l[:i+1], x.Depth())
-				}
+		x := New[int]()
+		for i, k := range l {
+			if x.Put(k, i); x.Len() < least(x.Depth()) || x.root.check() != x.Depth() {
+				t.Fatal("put", l[:i+1], x.Depth())
 			}
-			if x.Del(gone); x.Len() < least(x.Depth()) || x.root.check() != x.Depth() {
-				t.Fatal(l, gone, x.Depth())
+		}
+		for i := range l {
+			if x.Del(l[i*3%len(l)]); x.Len() < least(x.Depth()) || x.root.check() != x.Depth() {
+				t.Fatal("deleted", l, i, x.Depth())
 			}
 		}
 	}

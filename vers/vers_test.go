@@ -92,6 +92,9 @@ func TestPrune(t *testing.T) {
 	if got := Prune(odd, 5); !slices.Equal(got, odd[3:]) {
 		t.Error(got)
 	}
+	if got := Prune(odd, 1); !slices.Equal(got, odd) {
+		t.Error(got)
+	}
 }
 
 // P14.3: what is put later changes nothing earlier; what is pruned nothing later.
