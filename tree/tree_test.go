@@ -106,6 +106,9 @@ func TestDepth(t *testing.T) {
 		if !slices.Equal(x.Keys("", ""), keys) {
 			t.Fatal("keys")
 		}
+		if r.Intn(2) == 0 {
+			slices.Reverse(keys)
+		}
 		for _, k := range keys {
 			x.Del(k)
 			if x.Len() < least(x.Depth()) || x.Len() < 400 && x.root.check() != x.Depth() {
