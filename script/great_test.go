@@ -24,12 +24,14 @@ var kinds = [][]int{
 	{5, 60, 60, 1, 1, 3, 6, 2, 3, 1},
 	{10, 60, 50, 5, 20, 1, 2, 0, 0, 0},
 	{10, 20, 80, 0, 0, 0, 1, 0, 1, 1},
+	{20, 50, 30, 3, 3, 1, 3, 0, 4, 3},
+	{15, 70, 20, 1, 5, 2, 4, 0, 5, 4},
 }
 
 // ask is something that a client may be asked to do.
 func ask(r *rand.Rand, c *cluster.Cluster) api.Ask {
 	key := func() string { return "abcde"[r.Intn(5):][:1] }
-	at := c.Mark(r.Intn(4)) - uint64(r.Intn(4)) + uint64(r.Intn(3))
+	at := c.Mark(r.Intn(4)) - uint64(r.Intn(8)) + uint64(r.Intn(3))
 	switch r.Intn(10) {
 	case 0:
 		return api.Ask{K: api.AGet, Node: r.Intn(4), Key: key(), At: at}
@@ -38,7 +40,7 @@ func ask(r *rand.Rand, c *cluster.Cluster) api.Ask {
 	case 2, 3:
 		return api.Ask{K: api.ALatest, Node: r.Intn(4), Key: key()}
 	case 4:
-		return api.Ask{K: api.APin + r.Intn(3), At: c.Horizon(api.Master) + uint64(r.Intn(4)), N: r.Intn(4)}
+		return api.Ask{K: api.APin + r.Intn(3), At: c.Horizon(api.Master) + uint64(r.Intn(4)) - uint64(r.Intn(2)), N: r.Intn(4)}
 	}
 	a := api.Ask{K: api.AWrite}
 	for range r.Intn(4) {
@@ -143,8 +145,8 @@ func (x *seen) judged() {
 	}
 }
 
-// play runs one random script, and then lets all settle.
-func play(t *testing.T, seed int64, steps int) {
+// play runs one random script, and then lets all settle; it answers what it came to.
+func play(t *testing.T, seed int64, steps int) *cluster.Cluster {
 	r := rand.New(rand.NewSource(seed))
 	floor := uint64(0)
 	if r.Intn(4) == 0 {
@@ -194,6 +196,7 @@ func play(t *testing.T, seed int64, steps int) {
 		}
 	}
 	again(x, n, floor, events)
+	return c
 }
 
 // again plays the same steps from bytes: the same comes of it.
@@ -224,9 +227,46 @@ func setting(name string, usual int) int {
 func TestGreat(t *testing.T) {
 	seeds, steps := setting("GREAT", 60), setting("GREATSTEPS", 600)
 	from := setting("GREATFROM", 0)
+	all := map[string]int{}
 	for i := range seeds {
-		play(t, int64(from+i), steps)
+		for what, n := range happened(play(t, int64(from+i), steps)) {
+			all[what] += n
+		}
 	}
+	// Who does nothing breaks no promise: all of this is to happen, too.
+	for _, what := range []string{"written", "read", "found", "latest", "pinned", "epochs", "horizon", "too new", "too old", "the end", "late"} {
+		if all[what] < seeds/40 {
+			t.Error("too few:", what, all[what])
+		}
+	}
+}
+
+// happened counts what came of a cluster's deeds.
+func happened(c *cluster.Cluster) map[string]int {
+	n := map[string]int{"epochs": c.Conf().Epoch - 1}
+	if c.Horizon(api.Master) > 0 {
+		n["horizon"]++
+	}
+	for _, d := range c.Deeds() {
+		switch {
+		case d.End == 0:
+		case d.Reply.E != api.OK:
+			n[map[api.Errno]string{api.ErrTooNew: "too new", api.ErrPruned: "too old", api.ErrEnd: "the end", api.ErrLate: "late"}[d.Reply.E]]++
+		case d.Ask.K == api.AWrite:
+			n["written"]++
+		case d.Ask.K >= api.APin:
+			n["pinned"]++
+		default:
+			n["read"]++
+			if len(d.Reply.Pairs) > 0 {
+				n["found"]++
+			}
+			if d.Ask.K == api.ALatest {
+				n["latest"]++
+			}
+		}
+	}
+	return n
 }
 
 // E1 to E4, of whatever bytes.
