@@ -120,7 +120,7 @@ func TestThin(t *testing.T) {
 		gone int
 		want []api.Entry
 	}{
-		{api.MaxTs, 0, 0, start}, {api.MaxTs, -1, 0, start}, {4, 9, 0, start}, {6, 1, 0, start},
+		{api.MaxTs, 0, 0, start}, {api.MaxTs, -1, 0, start}, {api.MaxTs, -1 << 63, 0, start}, {4, 9, 0, start}, {6, 1, 0, start},
 		{5, 9, 1, []api.Entry{entry(0, 1, 3, b), start[1], start[2], start[3]}},
 		{api.MaxTs, 2, 1, []api.Entry{entry(0, 1, 3, b), start[1], start[2], start[3]}},
 		{api.MaxTs, 1 << 62, 2, []api.Entry{entry(0, 1, 3, b), entry(0, 2, 5), start[2], start[3]}},
