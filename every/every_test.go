@@ -1,7 +1,8 @@
-// Package every calls all that the document lists, at whatever arguments.
+// Package every calls all that the document lists, at whatever arguments: what holds everywhere.
 package every
 
 import (
+	"fmt"
 	"math/rand"
 	"reflect"
 	"strings"
@@ -150,7 +151,15 @@ func (m *maker) call(t *testing.T, name string, f reflect.Value) {
 		}
 	}()
 	begin := time.Now()
-	for _, v := range f.Call(in) {
+	before := describe(in)
+	answers := f.Call(in)
+	if describe(in) != before {
+		t.Fatalf("%s changes what is handed in", name)
+	}
+	if given, own := spans(in), spans(answers); overlap(own, given) || overlap(own, nil) {
+		t.Fatalf("%s answers memory of an argument, or shares some within", name)
+	}
+	for _, v := range answers {
 		if v.Kind() == reflect.Pointer {
 			l := append(m.objects[v.Type()], v)
 			if len(l) > 4 {
@@ -164,10 +173,57 @@ func (m *maker) call(t *testing.T, name string, f reflect.Value) {
 	}
 }
 
-// P1: every call ends, and none panics, at all arguments, and at objects that no call made.
+// describe writes down all values, but for objects.
+func describe(l []reflect.Value) string {
+	s := ""
+	for _, v := range l {
+		if v.Kind() != reflect.Pointer {
+			s += fmt.Sprintf("%#v\n", v.Interface())
+		}
+	}
+	return s
+}
+
+// span is the memory of a list.
+type span struct{ from, to uintptr }
+
+// spans answers the memory of all lists in some values, but for those of objects.
+func spans(l []reflect.Value) []span {
+	var all []span
+	for _, v := range l {
+		switch v.Kind() {
+		case reflect.Slice:
+			if size := uintptr(v.Cap()) * v.Type().Elem().Size(); size > 0 {
+				all = append(all, span{v.Pointer(), v.Pointer() + size})
+			}
+			for i := range v.Len() {
+				all = append(all, spans([]reflect.Value{v.Index(i)})...)
+			}
+		case reflect.Struct:
+			for i := range v.NumField() {
+				all = append(all, spans([]reflect.Value{v.Field(i)})...)
+			}
+		}
+	}
+	return all
+}
+
+// overlap tells whether two spans share memory: of l, or one of l and one of m.
+func overlap(l, m []span) bool {
+	for i, x := range l {
+		for k, y := range append(append([]span{}, l...), m...) {
+			if i != k && x.from < y.to && y.from < x.to {
+				return true
+			}
+		}
+	}
+	return false
+}
+
+// P1, P4: every call ends, and none panics, at all arguments, and at objects that no call made.
 func TestEvery(t *testing.T) {
 	m := &maker{Rand: rand.New(rand.NewSource(37)), objects: map[reflect.Type][]reflect.Value{}}
-	for range 300 {
+	for range 40 {
 		for _, f := range calls {
 			v := reflect.ValueOf(f)
 			m.call(t, v.Type().String(), v)
