@@ -158,8 +158,8 @@ func TestTick(t *testing.T) {
 	c.Deliver(2, done(1, 5))
 	goes(t, c.Tick())
 	start(t, c, write)
-	for i := range 8 {
-		if i%4 == 3 {
+	for i := 15; i < 23; i++ { // the count goes on from task to task
+		if i%4 == 0 {
 			goes(t, c.Tick(), sent(3, 2, 2), ask)
 		} else {
 			goes(t, c.Tick(), sent(3, 2, 2))
